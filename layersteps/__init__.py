@@ -1,0 +1,1 @@
+"""Commands that move one layer of a drawing."""
