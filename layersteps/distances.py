@@ -24,9 +24,11 @@ def all_stretches(size):
 
 def best_stretch(order, target):
     """Return a stretch of the target with the smallest cost for the order."""
+    # A target without layers has no stretch; the empty one costs nothing there.
     return min(
         all_stretches(len(target)),
         key=lambda stretch: stretch_cost(order, target, stretch[0], stretch[1]),
+        default=(0, 0),
     )
 
 

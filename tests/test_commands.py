@@ -74,6 +74,10 @@ class ApplyTest(unittest.TestCase):
         for order, script in sample_scripts():
             self.assertIsInstance(apply(order, script), tuple)
 
+    def test_no_layers(self):
+        self.assertEqual(apply((), ()), ())
+        self.assertEqual(idle((), ()), [])
+
     def test_somewhat_beyond_the_limits(self):
         order = NAMES + ("q", "r")
         script = random_script(random.Random(3), order, 70)

@@ -1,6 +1,7 @@
 """Points [7], [8] and [13] to [16]."""
 
 import itertools
+import string
 import unittest
 
 from layersteps.commands import apply
@@ -128,13 +129,29 @@ class PlanTest(unittest.TestCase):
         for size in range(1, 11):
             self.check(NAMES[:size], NAMES[:size][::-1], size - 1)
 
-    def test_somewhat_beyond_the_limits(self):
-        order = NAMES + ("q", "r")
-        target = order[6:] + order[5::-1]
-        script = plan(order, target)
-        self.assertEqual(walk(order, script), target)
-        self.assertEqual(len(script), distance(order, target))
-        self.assertEqual(len(script), smallest_cost(order, target))
+
+class BeyondTheLimitsTest(unittest.TestCase):
+    def test_no_layers(self):
+        self.assertEqual(best_stretch((), ()), (0, 0))
+        self.assertEqual(stretch_cost((), (), 0, 0), 0)
+        self.assertEqual(distance((), ()), 0)
+        self.assertEqual(plan((), ()), ())
+
+    def test_eleven_to_fourteen_layers(self):
+        for size in range(11, 15):
+            order = tuple(string.ascii_lowercase[:size])
+            for target in (order, order[::-1], order[5:] + order[:5], order[6:] + order[5::-1]):
+                start, end = best_stretch(order, target)
+                self.assertEqual(stretch_cost(order, target, start, end), smallest_cost(order, target))
+                self.assertEqual(distance(order, target), smallest_cost(order, target))
+                self.assertEqual(len(plan(order, target)), smallest_cost(order, target))
+                self.assertEqual(walk(order, plan(order, target)), target)
+
+    def test_stretches_outside_of_the_target(self):
+        order = NAMES[:4]
+        for start in range(-2, 7):
+            for end in range(-2, 7):
+                self.assertIsInstance(stretch_cost(order, order[::-1], start, end), int)
 
 
 class ArgumentsTest(unittest.TestCase):
