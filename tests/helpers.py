@@ -1,9 +1,14 @@
 """What the tests compare the program with, written from the words of the document."""
 
+import copy
 import itertools
 import random
 
 WORDS = ("front", "back", "up", "down")
+# Other names for the layers of the document's examples: with the same ascending order, and with another one.
+SAME_ASCENDING = {"a": "bb", "b": "c", "c": "layer", "d": "z", "o": "zz"}
+OTHER_ASCENDING = {"a": "zebra", "b": "up", "c": "m", "d": "front", "o": "abcdefgh"}
+RENAMINGS = ({}, SAME_ASCENDING, OTHER_ASCENDING)
 NAMES = ("a", "bb", "layer", "zebra", "abcdefgh", "m", "ab", "ba", "front", "z")
 
 
@@ -66,6 +71,28 @@ def defined_stretches(size):
     return [(start, end) for start in range(size + 1) for end in range(size + 1) if start < end]
 
 
+def smallest_cost(order, target):
+    return min(defined_cost(order, target, start, end) for start, end in defined_stretches(len(target)))
+
+
+def renamed(value, names):
+    """The same value with other names for the layers; the words of commands are no keys of `names`, so they stay."""
+    if isinstance(value, str):
+        return names.get(value, value)
+    if isinstance(value, (tuple, list)):
+        return (list if isinstance(value, list) else tuple)(renamed(item, names) for item in value)
+    return value
+
+
+def sorted_orders(layers):
+    return sorted(itertools.permutations(layers))
+
+
+def differing_orders(layers, first, second):
+    """All orders of the layers for which the scripts lead to different results, ascending."""
+    return [order for order in sorted_orders(layers) if walk(order, first) != walk(order, second)]
+
+
 def shuffled(source, layers):
     row = list(layers)
     source.shuffle(row)
@@ -74,6 +101,11 @@ def shuffled(source, layers):
 
 def random_script(source, order, length):
     return tuple(source.choice(all_commands(order)) for at in range(length))
+
+
+def random_ends_script(source, layers, length):
+    """A script that contains only "front" and "back"."""
+    return tuple((source.choice(("front", "back")), source.choice(layers)) for at in range(length))
 
 
 def sample_pairs(seed, sizes, each):
@@ -89,3 +121,16 @@ def sample_pairs(seed, sizes, each):
             pairs.append((order, shuffled(source, order)))
             pairs.append((order, walk(order, random_script(source, order, source.randint(1, 4)))))
     return pairs
+
+
+def check_call(case, function, arguments):
+    """A call does not modify its arguments, returns the same value again, and a list of its own each time."""
+    before = copy.deepcopy(arguments)
+    value = function(*arguments)
+    case.assertEqual(arguments, before)
+    again = function(*arguments)
+    case.assertEqual(again, value)
+    if isinstance(value, list):
+        case.assertIsNot(again, value)
+        value.append("more")
+        case.assertEqual(function(*arguments), again)

@@ -13,14 +13,11 @@ from tests.helpers import (
     defined_stretches,
     sample_pairs,
     searched_distances,
+    smallest_cost,
     walk,
 )
 
 SAMPLES = sample_pairs(5, range(1, 11), 25)
-
-
-def smallest_cost(order, target):
-    return min(defined_cost(order, target, start, end) for start, end in defined_stretches(len(target)))
 
 
 class ExampleTest(unittest.TestCase):

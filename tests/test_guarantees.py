@@ -1,11 +1,22 @@
-"""The guarantees of point [3] that speak of distances."""
+"""The guarantees of point [3]."""
 
+import itertools
 import random
 import unittest
 
 from layersteps.commands import apply
 from layersteps.distances import best_stretch, distance, stretch_cost
-from tests.helpers import NAMES, all_commands, defined_stretches, sample_pairs, shuffled
+from layersteps.scripts import equal, normal_form
+from tests.helpers import (
+    NAMES,
+    all_commands,
+    defined_stretches,
+    differing_orders,
+    random_ends_script,
+    sample_pairs,
+    shuffled,
+    walk,
+)
 
 SAMPLES = sample_pairs(23, range(1, 11), 15)
 # One layer more still fits into an order.
@@ -82,6 +93,78 @@ class ChangedOrdersTest(unittest.TestCase):
     def test_one_more_layer_behind(self):
         for order, target in SMALLER_SAMPLES:
             self.check_grown(distance(order, target), distance(order + ("new",), target + ("new",)))
+
+
+def without_command(layers, script):
+    return len(set(layers) - {layer for word, layer in script})
+
+
+def same_by_normal_forms(layers, first, second):
+    """What the guarantee says about two scripts of front and back."""
+    if normal_form(first) == normal_form(second):
+        return True
+    if without_command(layers, first) > 1 or without_command(layers, second) > 1:
+        return False
+    return walk(layers, first) == walk(layers, second)
+
+
+class NormalFormGuaranteeTest(unittest.TestCase):
+    def check(self, layers, first, second):
+        same = not differing_orders(layers, first, second)
+        self.assertEqual(same_by_normal_forms(layers, first, second), same, (layers, first, second))
+        self.assertIs(equal(layers, first, second), same, (layers, first, second))
+
+    def test_all_short_scripts(self):
+        for layers, longest in ((("a",), 3), (("b", "a"), 3), (("b", "c", "a"), 2)):
+            commands = [(word, layer) for word in ("front", "back") for layer in layers]
+            scripts = [
+                script
+                for length in range(longest + 1)
+                for script in itertools.product(commands, repeat=length)
+            ]
+            for first, second in itertools.combinations_with_replacement(scripts, 2):
+                self.check(layers, first, second)
+
+    def test_scripts_with_equal_normal_forms(self):
+        source = random.Random(43)
+        for size in range(1, 7):
+            for at in range(8):
+                layers = shuffled(source, NAMES[:size])
+                script = random_ends_script(source, layers, source.randint(0, 10))
+                fronts, backs = normal_form(script)
+                moves = [("front", layer) for layer in fronts[::-1]] + [("back", layer) for layer in backs]
+                shortest = tuple(moves)
+                self.assertEqual(normal_form(shortest), (fronts, backs))
+                self.check(layers, script, shortest)
+                self.check(layers, script, shortest[1:])
+                # Commands for layers that are moved again later do not count.
+                earlier = tuple((source.choice(("front", "back")), layer) for layer in fronts + backs)
+                self.check(layers, script, earlier + shortest)
+
+    def test_scripts_that_leave_at_most_one_layer(self):
+        source = random.Random(47)
+        for size in range(1, 7):
+            for at in range(8):
+                layers = shuffled(source, NAMES[:size])
+                result = shuffled(source, layers)
+                scripts = []
+                for cut in range(size + 1):
+                    fronts = tuple(("front", layer) for layer in result[:cut][::-1])
+                    scripts.append(fronts + tuple(("back", layer) for layer in result[cut:]))
+                    scripts.append(fronts + tuple(("back", layer) for layer in result[cut + 1:]))
+                first = source.choice(scripts)
+                second = source.choice(scripts)
+                self.check(layers, first, second)
+                self.assertIs(equal(layers, first, second), True)
+
+    def test_random_scripts(self):
+        source = random.Random(53)
+        for size in range(1, 7):
+            for at in range(15):
+                layers = shuffled(source, NAMES[:size])
+                first = random_ends_script(source, layers, source.randint(0, 2 * size))
+                second = random_ends_script(source, layers, source.randint(0, 2 * size))
+                self.check(layers, first, second)
 
 
 if __name__ == "__main__":
